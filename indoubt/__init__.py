@@ -1,0 +1,1 @@
+"""Indoubt: a relational database that keeps working while transaction outcomes are unknown."""
