@@ -73,10 +73,35 @@ def columns_in(formula):
     """Return the names of the columns in the formula, each once, in the order in which they occur first."""
     found = {}
     for comparison in _comparisons_in(formula):
-        for _, operand in comparison[2] + comparison[3]:
-            if operand[0] == "column":
-                found[operand[1]] = True
+        for name in columns_of(comparison[2] + comparison[3]):
+            found[name] = True
     return tuple(found)
+
+
+def columns_of(expression):
+    """Return the list of the names of the columns in the expression, in order, as often as they occur."""
+    return [operand[1] for _, operand in expression if operand[0] == "column"]
+
+
+def with_columns(formula, columns):
+    """Return the formula with other columns: the dict has the new name for each name that occurs in it."""
+    word = formula[0]
+    if word == "compare":
+        left = _expression_with_columns(formula[2], columns)
+        right = _expression_with_columns(formula[3], columns)
+        return ("compare", formula[1], left, right)
+    if word == "and" or word == "or":
+        return (word, tuple([with_columns(part, columns) for part in formula[1]]))
+    return (word,) + tuple([with_columns(part, columns) for part in formula[1:]])
+
+
+def _expression_with_columns(expression, columns):
+    changed = []
+    for sign, (word, content) in expression:
+        if word == "column":
+            content = columns[content]
+        changed.append((sign, (word, content)))
+    return tuple(changed)
 
 
 def _operand_kind(operand, kinds):

@@ -6,25 +6,37 @@ from indoubt.values import sorted_rows
 
 def answer_of(query, relations):
     """Return the answer of the checked query on the relations."""
-    word = query[0]
-    if word == "name":
+    if query[0] == "name":
         return relations[query[1]]
-    before = answer_of(query[1], relations)
+    return stage_answer(query, [answer_of(part, relations) for part in parts_of(query)])
+
+
+def stage_answer(query, answers):
+    """Return the answer of a query that is no name, given the answers of the queries directly in it."""
+    word = query[0]
     if word in _WITH_OPERAND:
-        operand = answer_of(query[2], relations)
         stage = _WITH_OPERAND[word]
-        return stage(before, operand)
+        return stage(answers[0], answers[1])
     stage = _WITHOUT_OPERAND[word]
-    return stage(before, query)
+    return stage(answers[0], query)
+
+
+def parts_of(query):
+    """Return the queries directly in the query: the one before its last stage, and the operand of this stage."""
+    if query[0] == "name":
+        return ()
+    if query[0] in _WITH_OPERAND:
+        return query[1:]
+    return query[1:2]
 
 
 def names_in(query):
     """Return the names of relations in the query, each once, in the order in which they occur first."""
     if query[0] == "name":
         return (query[1],)
-    found = {name: True for name in names_in(query[1])}
-    if query[0] in _WITH_OPERAND:
-        for name in names_in(query[2]):
+    found = {}
+    for part in parts_of(query):
+        for name in names_in(part):
             found[name] = True
     return tuple(found)
 

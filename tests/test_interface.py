@@ -20,6 +20,19 @@ INTERFACE = {
         "check_script": "schema script", "run": "schema tables script", "tables_written": "script",
         "tables_read": "schema script", "conflicts": "schema first second",
     },
+    "plans": {"apply_step": "schema query step", "plan_for": "schema query", "check_plan": "schema query plan"},
+    "costs": {
+        "formula_size": "formula", "node_count": "query", "potential": "query", "rows_made": "query relations",
+        "rows_read": "query relations",
+    },
+    "facts": {"names_of": "fact", "holds": "fact committed"},
+    "outcomes": {"nothing_known": "", "mention": "known names", "keep": "known outcomes", "learn": "known fact"},
+    "conditions": {
+        "condition_of": "undecided possible chosen", "holds_in": "condition outcome", "fact_of": "condition",
+    },
+    "tokens": {"tokens_of": "text", "is_name": "text"},
+    "reader": {"read_schema": "text", "read_query": "text", "read_script": "text", "read_fact": "text"},
+    "printer": {"show_schema": "schema", "show_query": "query", "show_script": "script", "show_fact": "fact"},
 }
 
 

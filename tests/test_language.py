@@ -134,6 +134,30 @@ class Language(unittest.TestCase):
                     self.assertIsInstance(node, ast.Expr, file)
             self.assertEqual(len(names), len(set(names)), file)
 
+    def test_no_variable_has_the_name_of_an_import_or_a_class_of_its_file(self):
+        for file, _, tree in parsed_files():
+            fixed = set()
+            for node in tree.body:
+                if isinstance(node, ast.ImportFrom):
+                    fixed.update([alias.name for alias in node.names])
+                elif isinstance(node, ast.ClassDef):
+                    fixed.add(node.name)
+            for node in ast.walk(tree):
+                if isinstance(node, ast.arg):
+                    self.assertNotIn(node.arg, fixed, f"{file}, line {node.lineno}")
+                elif isinstance(node, ast.Name) and isinstance(node.ctx, ast.Store):
+                    self.assertNotIn(node.id, fixed, f"{file}, line {node.lineno}")
+
+    def test_no_two_files_import_from_each_other(self):
+        imported = {}
+        for file, _, tree in parsed_files():
+            imported["indoubt." + file[:-3]] = {node.module for node in tree.body if isinstance(node, ast.ImportFrom)}
+        done = set()
+        while len(done) < len(imported):
+            free = {module for module, used in imported.items() if module not in done and used & set(imported) <= done}
+            self.assertTrue(free, sorted(set(imported) - done))
+            done |= free
+
     def test_methods(self):
         own = set()
         for file, _, tree in parsed_files():
