@@ -17,7 +17,7 @@ def mention(known, names):
     mentioned = sorted(set(names + undecided) - {name for name, _ in decided})
     if len(mentioned) > MOST_UNDECIDED:
         raise TooManyUndecided(len(mentioned))
-    combined = [outcome for outcome in _all_outcomes(mentioned) if _limited(outcome, undecided) in possible]
+    combined = [outcome for outcome in _all_outcomes(mentioned) if limited(outcome, undecided) in possible]
     return (decided, tuple(mentioned), tuple(combined))
 
 
@@ -33,14 +33,29 @@ def keep(known, outcomes):
             decided.append((name, commits[0]))
         else:
             undecided.append(name)
-    return (tuple(sorted(decided)), tuple(undecided), tuple([_limited(outcome, undecided) for outcome in outcomes]))
+    return (tuple(sorted(decided)), tuple(undecided), tuple([limited(outcome, undecided) for outcome in outcomes]))
 
 
 def learn(known, fact):
     """Return the knowledge after the fact has been learned."""
     mentioned = mention(known, names_of(fact))
-    committed = tuple([name for name, commits in known[0] if commits])
-    return keep(mentioned, tuple([outcome for outcome in mentioned[2] if holds(fact, outcome + committed)]))
+    return keep(mentioned, outcomes_with(mentioned, fact))
+
+
+def outcomes_with(known, fact):
+    """Return the possible outcomes for which the fact is true; all names in the fact have been mentioned."""
+    committed = committed_names(known)
+    return tuple([outcome for outcome in known[2] if holds(fact, outcome + committed)])
+
+
+def committed_names(known):
+    """Return the names that are decided to commit."""
+    return tuple([name for name, commits in known[0] if commits])
+
+
+def limited(outcome, names):
+    """Return what the outcome says about the names."""
+    return tuple([name for name in outcome if name in names])
 
 
 def _all_outcomes(names):
@@ -49,8 +64,3 @@ def _all_outcomes(names):
         return [()]
     others = _all_outcomes(names[1:])
     return [(names[0],) + outcome for outcome in others] + others
-
-
-def _limited(outcome, names):
-    """Return what the outcome says about the names."""
-    return tuple([name for name in outcome if name in names])

@@ -35,6 +35,11 @@ def show_fact(fact):
     return _spaced(_formula(fact))
 
 
+def show_row(row):
+    """Return the printed form of the row."""
+    return _spaced(_row(row))
+
+
 def _table(table):
     name, columns, key, limit, checks, references = table
     pieces = ["table", name] + _in_parentheses(_listed([[column, word] for column, word in columns]))
@@ -84,8 +89,7 @@ def _aggregate(item):
 def _statement(statement):
     word = statement[0]
     if word == "insert":
-        rows = [_in_parentheses(_listed([[_value(value)] for value in row])) for row in statement[2]]
-        return ["insert", statement[1]] + _listed(rows)
+        return ["insert", statement[1]] + _listed([_row(row) for row in statement[2]])
     if word == "insert from":
         return ["insert", statement[1], "from"] + _query(statement[2])
     if word == "update":
@@ -94,6 +98,10 @@ def _statement(statement):
     if word == "delete":
         return ["delete", statement[1], "where"] + _formula(statement[2])
     return [word] + _query(statement[1])
+
+
+def _row(row):
+    return _in_parentheses(_listed([[_value(value)] for value in row]))
 
 
 def _formula(formula):

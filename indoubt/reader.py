@@ -51,6 +51,19 @@ def read_fact(text):
     return fact
 
 
+def read_conditional_row(text):
+    """Return the table, the row and the fact of a text such as `item (1, 'ink') when t1`."""
+    cursor = Cursor(text)
+    name = cursor.need_kind("name")
+    row = _row(cursor)
+    place = cursor.here()
+    if cursor.need_kind("name") != "when":
+        raise UnexpectedToken(place)
+    fact = _formula(cursor, 0, _outcome)
+    cursor.need_end()
+    return (name, row, fact)
+
+
 def _table(cursor):
     cursor.need("table")
     name = cursor.need_kind("name")

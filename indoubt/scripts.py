@@ -141,7 +141,7 @@ def _update(schema, tables, statement):
     changed = []
     for row in tables[name]:
         if satisfies(formula, names, row):
-            changed.append(_assigned(assignments, names, row))
+            changed.append(assigned_row(assignments, names, row))
         else:
             kept.append(row)
     if not _can_store_all(schema, name, changed):
@@ -163,7 +163,7 @@ def _with_rows(schema, tables, name, rows):
     return (together, None)
 
 
-def _assigned(assignments, names, row):
+def assigned_row(assignments, names, row):
     """Return the row with the values of the expressions, which are all evaluated for the old row."""
     values = list(row)
     for name, expression in assignments:

@@ -1,5 +1,7 @@
 """Short ways to write trees in tests."""
 
+from indoubt.reader import read_fact, read_script
+
 
 def col(name):
     return ("column", name)
@@ -55,6 +57,21 @@ def strings(*names):
 def copies(*names):
     """The items of a selection that copy columns."""
     return tuple([(name, one(col(name))) for name in names])
+
+
+def execute(text):
+    """The entry of an executed script."""
+    return ("execute", read_script(text))
+
+
+def prepare(name, text, cost=1):
+    """The entry of a prepared script."""
+    return ("prepare", name, cost, read_script(text))
+
+
+def learn(text):
+    """The entry of a fact that was learned."""
+    return ("learn", read_fact(text))
 
 
 ALWAYS = ("true",)

@@ -17,14 +17,14 @@ LIBRARY = {
 }
 BUILTINS = set("""
     len range enumerate zip min max sum abs sorted reversed int str bool bytes list tuple dict set isinstance ord repr
-    any all divmod pow map iter next super Exception ValueError TypeError KeyError IndexError LookupError
+    any all divmod pow map iter next super property Exception ValueError TypeError KeyError IndexError LookupError
     ZeroDivisionError ArithmeticError OverflowError RuntimeError NotImplementedError AttributeError StopIteration
     NotImplemented
 """.split())
 METHODS = set("""
     append clear copy count endswith extend find get index insert isalnum isalpha isdigit islower isspace isupper items
     join keys ljust lower lstrip partition pop remove replace reverse rfind rjust rpartition rsplit rstrip setdefault
-    split splitlines startswith strip update upper values zfill bit_length add discard sort
+    split splitlines startswith strip update upper values zfill bit_length add discard sort removeprefix removesuffix
 """.split())
 SPECIAL_METHODS = {"__init__", "__eq__", "__len__", "__iter__", "__getitem__", "__repr__", "__str__"}
 WRONG_WORDS = re.compile(
@@ -109,7 +109,8 @@ class Language(unittest.TestCase):
                     self.assertNotIsInstance(node.op, (ast.Div, ast.MatMult), file)
 
     def test_builtins_and_names(self):
-        known = set(dir(builtins))
+        # Examples that were run before leave their last value behind under this name.
+        known = set(dir(builtins)) - {"_"}
         for file, _, tree in parsed_files():
             for node in ast.walk(tree):
                 if isinstance(node, ast.Name) and node.id in known:
@@ -168,6 +169,33 @@ class Language(unittest.TestCase):
             for node in ast.walk(tree):
                 if isinstance(node, ast.Call) and isinstance(node.func, ast.Attribute):
                     self.assertIn(node.func.attr, METHODS | own, f"{file}, line {node.lineno}")
+
+    def test_properties(self):
+        properties = set()
+        for file, _, tree in parsed_files():
+            for node in ast.walk(tree):
+                if isinstance(node, (ast.FunctionDef, ast.ClassDef)):
+                    for decorator in node.decorator_list:
+                        self.assertEqual(ast.unparse(decorator), "property", f"{file}, {node.name}")
+                        properties.add(node.name)
+        for file, _, tree in parsed_files():
+            for node in ast.walk(tree):
+                if isinstance(node, ast.Attribute) and isinstance(node.ctx, ast.Store):
+                    self.assertNotIn(node.attr, properties, f"{file}, line {node.lineno}")
+
+    def test_generator_expressions_and_sets(self):
+        """Sets stand in sorted and len, and where one set is subtracted from another one."""
+        for file, _, tree in parsed_files():
+            taken = set()
+            for node in ast.walk(tree):
+                if isinstance(node, ast.Call) and isinstance(node.func, ast.Name):
+                    if node.func.id in ("sorted", "len", "any", "all", "sum", "min", "max", "list", "tuple"):
+                        taken.update(node.args)
+            taken.update([side for node in taken if isinstance(node, ast.BinOp) for side in (node.left, node.right)])
+            for node in ast.walk(tree):
+                is_set = isinstance(node, ast.Call) and isinstance(node.func, ast.Name) and node.func.id == "set"
+                if is_set or isinstance(node, (ast.Set, ast.SetComp, ast.GeneratorExp)):
+                    self.assertIn(node, taken, f"{file}, line {node.lineno}")
 
     def test_words_and_strings(self):
         for file, _, tree in parsed_files():
